@@ -1,0 +1,1 @@
+"""Regpress: programs put into few pans, and a looker that no wrong one passes."""
