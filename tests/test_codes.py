@@ -4,36 +4,7 @@ import unittest
 from regpress.codes import moves, run_code
 from regpress.errors import BadPans, BadProgram, PressError, Stuck
 from regpress.programs import run
-
-END = ("end",)
-TOP = 1000002
-HUGE = 999999999999999
-
-# For each spot where a place stands, but in moves: the deed and the end that have the place there.
-PLACE_SPOTS = {
-    "set": lambda p: (("set", p, 1), ("go", 1)),
-    "input": lambda p: (("input", p, 0), ("go", 1)),
-    "op, given": lambda p: (("op", "plus", p, 0, 0), ("go", 1)),
-    "op, first read": lambda p: (("op", "plus", 0, p, 0), ("go", 1)),
-    "op, second read": lambda p: (("op", "plus", 0, 0, p), ("go", 1)),
-    "tell": lambda p: (("tell", p), ("go", 1)),
-    "if": lambda p: (("tell", 0), ("if", p, 1, 1)),
-}
-
-BLOCK_SPOTS = {
-    "go": lambda n: ("go", n),
-    "if, not 0": lambda n: ("if", 1, n, 0),
-    "if, 0": lambda n: ("if", 0, 0, n),
-}
-
-# Deeds and ends that are stuck on no inputs where pan 0 alone has a value.
-STUCK_ROWS = {
-    "input": (("input", 0, 0), END),
-    "op, first read": (("op", "plus", 0, 1, 0), END),
-    "op, second read": (("op", "times", 0, 0, 1), END),
-    "tell": (("tell", 1), END),
-    "if": (None, ("if", 1, 0, 0)),
-}
+from rows import BLOCK_SPOTS, END, HUGE, NAME_SPOTS, STUCK_ROWS, TOP
 
 
 def told(deeds, pans=2, inputs=()):
@@ -41,7 +12,7 @@ def told(deeds, pans=2, inputs=()):
 
 
 def place_code(spot, place, pans):
-    deed, end = PLACE_SPOTS[spot](place)
+    deed, end = NAME_SPOTS[spot](place)
     return [([("set", 0, 5), ("set", pans - 1, 7), deed], end), ([], END)]
 
 
@@ -135,21 +106,21 @@ class TestWhatCodeIs(CodeTest):
         self.assert_bad([(full + [("set", 0, 1)], END)])
 
     def test_pans_at_each_spot(self):
-        for spot in PLACE_SPOTS:
+        for spot in NAME_SPOTS:
             for pans in (2, 3, 15, 16):
                 for place in (0, pans - 1):
                     with self.subTest(spot=spot, pans=pans, place=place):
                         self.assertEqual(run_code(place_code(spot, place, pans), pans, [4], 5)[1], 5)
 
     def test_the_shelf_at_each_spot(self):
-        for spot in PLACE_SPOTS:
+        for spot in NAME_SPOTS:
             for pans in (2, 3, 15, 16):
                 for place in (pans, pans + 1, 23, 24, 59):
                     with self.subTest(spot=spot, pans=pans, place=place):
                         self.assert_bad(place_code(spot, place, pans), pans)
 
     def test_places_that_are_none_at_each_spot(self):
-        for spot in PLACE_SPOTS:
+        for spot in NAME_SPOTS:
             for place in (-1, 60, HUGE, -HUGE):
                 with self.subTest(spot=spot, place=place):
                     self.assert_bad(place_code(spot, place, 2))
