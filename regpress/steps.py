@@ -7,12 +7,45 @@ MOST_BLOCKS = 12
 WORDS = ("plus", "minus", "times")
 DEED_SIZES = {"set": 3, "input": 3, "op": 5, "tell": 2}
 END_SIZES = {"go": 2, "if": 4, "end": 1}
-NAME_SPOTS = {"set": (1,), "input": (1,), "op": (2, 3, 4), "tell": (1,), "go": (), "if": (1,), "end": ()}
+GIVEN_SPOTS = {"set": (1,), "input": (1,), "op": (2,), "tell": (), "go": (), "if": (), "end": ()}
+READ_SPOTS = {"set": (), "input": (), "op": (3, 4), "tell": (1,), "go": (), "if": (1,), "end": ()}
 BLOCK_SPOTS = {"go": (1,), "if": (2, 3), "end": ()}
 
 
 def is_move(deed):
     return deed[:1] == ("move",)
+
+
+# A row is a deed or an end: both have a kind, and names (places, in code) at some spots. What asks for a row's
+# names takes no moves, as what they stand for is another matter.
+def rows_of(block):
+    return block[0] + [block[1]]
+
+
+def given_in(row):
+    return [row[spot] for spot in GIVEN_SPOTS[row[0]]]
+
+
+def read_in(row):
+    return [row[spot] for spot in READ_SPOTS[row[0]]]
+
+
+def without_names(row):
+    spots = GIVEN_SPOTS[row[0]] + READ_SPOTS[row[0]]
+    return [part for spot, part in enumerate(row) if spot not in spots]
+
+
+def with_names(row, given, read):
+    parts = list(row)
+    for spot, name in zip(GIVEN_SPOTS[row[0]], given):
+        parts[spot] = name
+    for spot, name in zip(READ_SPOTS[row[0]], read):
+        parts[spot] = name
+    return tuple(parts)
+
+
+def ways_on(end):
+    return [end[spot] for spot in BLOCK_SPOTS[end[0]]]
 
 
 def check_sizes(blocks, most_deeds):
@@ -45,14 +78,14 @@ def check_end(end, names, block_count, number):
     if len(end) == 0 or END_SIZES.get(end[0]) != len(end):
         raise BadProgram(f"block {number}: an end that is none")
     check_names(end, names, number)
-    for spot in BLOCK_SPOTS[end[0]]:
-        if end[spot] < 0 or end[spot] >= block_count:
+    for block in ways_on(end):
+        if block < 0 or block >= block_count:
             raise BadProgram(f"block {number}: its end names a block that is none")
 
 
 def check_names(row, names, number):
-    for spot in NAME_SPOTS[row[0]]:
-        if row[spot] < 0 or row[spot] >= names:
+    for name in given_in(row) + read_in(row):
+        if name < 0 or name >= names:
             raise BadProgram(f"block {number}: a name that is none, or may not stand there")
 
 
